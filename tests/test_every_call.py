@@ -1,0 +1,74 @@
+"""What holds of every call: plain answers, nothing changed, nothing kept."""
+
+import copy
+import unittest
+
+from planebook import desk
+
+
+def calls():
+    """Each time with lists of their own, so that no test meets what another has changed."""
+    return (
+        (desk.form, (7, [0, 3, 5])), (desk.form, (31, [62, 4294967295, 4294967294])),
+        (desk.form, (9, [0, 3, 5])), (desk.form, (7, [7, 0, 14])), (desk.form, (7, [])), (desk.form, (7, [1] * 9)),
+        (desk.number, (7, [0, 3, 5])), (desk.number, (31, [62, 4294967295, 4294967294])),
+        (desk.number, (2, [0, 3, 5])), (desk.number, (7, [7, 0, 14])), (desk.number, (7, [1, 2])),
+        (desk.nth, (7, 0)), (desk.nth, (7, 1)), (desk.nth, (7, 8)), (desk.nth, (7, 57)), (desk.nth, (8, 57)),
+        (desk.on, (7, [8, 16, 3], [4294967295, 1, 7])), (desk.on, (7, [7, 1, 0], [7, 7, 1])),
+        (desk.on, (7, [8, 9, 10], [1, 1, 1])),
+        (desk.on, (1, [8, 9, 10], [1, 1, 1])), (desk.on, (7, [7, 7, 7], [1, 1, 1])), (desk.on, (7, [1, 1, 1], [1])),
+    )
+
+
+class EveryCall(unittest.TestCase):
+    def test_answers_are_lists_of_whole_numbers(self):
+        for call, given in calls():
+            answer = call(*given)
+            self.assertIs(type(answer), list)
+            for n in answer:
+                self.assertIs(type(n), int, (call, given))
+
+    def test_a_refusal_is_its_number_alone(self):
+        for call, given in calls():
+            answer = call(*given)
+            self.assertIn(answer[0], (0, -1, -2))
+            self.assertEqual(answer[0] < 0, len(answer) == 1, (call, given))
+
+    def test_what_is_handed_in_stays(self):
+        for call, given in calls():
+            before = copy.deepcopy(given)
+            call(*given)
+            self.assertEqual(given, before)
+
+    def test_the_same_lists_again_answer_the_same(self):
+        for call, given in calls():
+            self.assertEqual(call(*given), call(*given), (call, given))
+
+    def test_in_another_order_they_answer_the_same(self):
+        first = [call(*given) for call, given in calls()]
+        second = [call(*given) for call, given in reversed(calls())]
+        self.assertEqual(first, second[::-1])
+
+    def test_what_was_answered_is_the_callers_own(self):
+        for call, given in calls():
+            answer = call(*given)
+            kept = list(answer)
+            answer.append(99)
+            answer[0] = 98
+            self.assertEqual(call(*given), kept, (call, given))
+
+    def test_one_list_for_both(self):
+        x = [1, 2, 3]
+        self.assertEqual(desk.on(7, x, x), [0, 1])
+        self.assertEqual(desk.on(5, x, x), [0, 0])
+        self.assertEqual(x, [1, 2, 3])
+
+    def test_arguments_by_name(self):
+        self.assertEqual(desk.form(p=7, x=[0, 3, 5]), [0, 0, 1, 4])
+        self.assertEqual(desk.number(p=7, x=[0, 3, 5]), [0, 5])
+        self.assertEqual(desk.nth(p=7, i=5), [0, 0, 1, 4])
+        self.assertEqual(desk.on(p=7, x=[0, 3, 5], l=[1, 0, 0]), [0, 1])
+
+
+if __name__ == "__main__":
+    unittest.main()
