@@ -6,11 +6,6 @@
 ODD_PRIMES = (3, 5, 7, 11, 13, 17, 19, 23, 29, 31)
 
 
-def is_odd_prime(p):
-    """Whether p is an odd prime, 31 at most."""
-    return p in ODD_PRIMES
-
-
 def first_not_zero(p, numbers):
     """The first of the numbers that is not 0 modulo p, modulo p; 0 if there is none."""
     for n in numbers:
@@ -19,9 +14,9 @@ def first_not_zero(p, numbers):
     return 0
 
 
-def is_triple(p, numbers):
-    """Whether these are the numbers of a point, or of a line."""
-    return len(numbers) == 3 and first_not_zero(p, numbers) != 0
+def are_triples(p, lists):
+    """Whether each of the lists has the numbers of a point, or of a line."""
+    return all([len(numbers) == 3 and first_not_zero(p, numbers) != 0 for numbers in lists])
 
 
 def inverse(p, a):
@@ -59,23 +54,97 @@ def point_at(p, i):
     return [1, rest // p, rest % p]
 
 
+def dot(p, x, y):
+    """The sum of the products of x and y, number by number: 0 if the point x is on the line y."""
+    return (x[0] * y[0] + x[1] * y[1] + x[2] * y[2]) % p
+
+
+def mixed(p, s, x, t, y):
+    """The numbers s x + t y, number by number."""
+    return [(s * x[i] + t * y[i]) % p for i in range(len(x))]
+
+
+def joined(p, x, y):
+    """The line that two points are on, or the point that is on two lines; all 0 if they are the same."""
+    return [(x[1] * y[2] - x[2] * y[1]) % p, (x[2] * y[0] - x[0] * y[2]) % p, (x[0] * y[1] - x[1] * y[0]) % p]
+
+
+def are_same(p, x, y):
+    """Whether x and y tell the same point, or line."""
+    return first_not_zero(p, joined(p, x, y)) == 0
+
+
+def determinant(p, m):
+    """The determinant of nine numbers, row by row; of three points one behind the other: 0 if one line has them."""
+    return dot(p, joined(p, m[0:3], m[3:6]), m[6:9])
+
+
+def rows_of(m):
+    """The three rows of nine numbers."""
+    return [m[0:3], m[3:6], m[6:9]]
+
+
+def transposed(m):
+    """Nine numbers with rows and columns changed for one another."""
+    return [m[3 * (i % 3) + i // 3] for i in range(9)]
+
+
+def product(p, m, n):
+    """The matrix m times the matrix n."""
+    rows = rows_of(m)
+    columns = rows_of(transposed(n))
+    return [dot(p, rows[i // 3], columns[i % 3]) for i in range(9)]
+
+
+def undone(p, m):
+    """The inverse of the matrix m, times its determinant: as a map it undoes m."""
+    # Two rows joined give 0 by each of them, and the determinant by the third.
+    rows = rows_of(m)
+    return transposed(joined(p, rows[1], rows[2]) + joined(p, rows[2], rows[0]) + joined(p, rows[0], rows[1]))
+
+
+def are_three_on_line(p, a, b, c):
+    """Whether these are three different points on one line."""
+    if are_same(p, a, b) or are_same(p, b, c) or are_same(p, a, c):
+        return False
+    return determinant(p, a + b + c) == 0
+
+
+def weights(p, a, b, x):
+    """Numbers s, t such that x is told by s a + t b; x is on the line of two points a, b."""
+    # If x is s a + t b, then x joined with b is s times the line, a joined with x is t times it.
+    line = joined(p, a, b)
+    i = line.index(first_not_zero(p, line))
+    return [joined(p, x, b)[i], joined(p, a, x)[i]]
+
+
+def frame(p, a, b, c, d):
+    """A matrix that takes 1 0 0, 0 1 0, 0 0 1, 1 1 1 to the four points; its determinant is 0 if there is none."""
+    # The three are scaled so that they add up to d. The determinant is the product of those of all
+    # threes out of the four, so it is 0 just when three of them are on one line.
+    first = determinant(p, d + b + c)
+    second = determinant(p, a + d + c)
+    third = determinant(p, a + b + d)
+    return transposed([first * n for n in a] + [second * n for n in b] + [third * n for n in c])
+
+
 def form(p, x):
     """The form of the point or line x."""
-    if not (is_odd_prime(p) and is_triple(p, x)):
+    if not (p in ODD_PRIMES and are_triples(p, [x])):
         return [-1]
     return [0] + form_of(p, x)
 
 
 def number(p, x):
     """How many points are before the point x in order."""
-    if not (is_odd_prime(p) and is_triple(p, x)):
+    if not (p in ODD_PRIMES and are_triples(p, [x])):
         return [-1]
     return [0, place_of(p, form_of(p, x))]
 
 
 def nth(p, i):
     """The point that has i before it; -2: there is none."""
-    if not is_odd_prime(p):
+    if p not in ODD_PRIMES:
         return [-1]
     if i > p * p + p:
         return [-2]
@@ -84,7 +153,51 @@ def nth(p, i):
 
 def on(p, x, l):
     """1 if the point x is on the line l, else 0."""
-    if not (is_odd_prime(p) and is_triple(p, x) and is_triple(p, l)):
+    if not (p in ODD_PRIMES and are_triples(p, [x, l])):
         return [-1]
-    total = x[0] * l[0] + x[1] * l[1] + x[2] * l[2]
-    return [0, 1 if total % p == 0 else 0]
+    return [0, 1 if dot(p, x, l) == 0 else 0]
+
+
+def join(p, x, y):
+    """The line that two points are on, or the point that is on two lines; -2: they are the same."""
+    if not (p in ODD_PRIMES and are_triples(p, [x, y])):
+        return [-1]
+    if are_same(p, x, y):
+        return [-2]
+    return [0] + form_of(p, joined(p, x, y))
+
+
+def cross(p, a, b, c, d):
+    """The number r for which c is s a + t b and d is r s a + t b, p if d is a; -2: they are not so on one line."""
+    if not (p in ODD_PRIMES and are_triples(p, [a, b, c, d])):
+        return [-1]
+    if not (are_three_on_line(p, a, b, c) and determinant(p, a + b + d) == 0):
+        return [-2]
+    if are_same(p, a, d):
+        return [0, p]
+    of_c = weights(p, a, b, c)
+    of_d = weights(p, a, b, d)
+    return [0, of_d[0] * of_c[1] * inverse(p, of_d[1] * of_c[0]) % p]
+
+
+def fourth(p, r, a, b, c):
+    """The point d for which cross is r; -2: a, b, c are not three points on one line, or r is above p."""
+    if not (p in ODD_PRIMES and are_triples(p, [a, b, c])):
+        return [-1]
+    if r > p or not are_three_on_line(p, a, b, c):
+        return [-2]
+    if r == p:
+        return [0] + form_of(p, a)
+    of_c = weights(p, a, b, c)
+    return [0] + form_of(p, mixed(p, r * of_c[0], a, of_c[1], b))
+
+
+def map_of(p, a, b, c, d, e, f, g, h):
+    """The map that takes a, b, c, d to e, f, g, h; -2: three of a four are on one line."""
+    if not (p in ODD_PRIMES and are_triples(p, [a, b, c, d, e, f, g, h])):
+        return [-1]
+    first = frame(p, a, b, c, d)
+    second = frame(p, e, f, g, h)
+    if determinant(p, first) == 0 or determinant(p, second) == 0:
+        return [-2]
+    return [0] + form_of(p, product(p, second, undone(p, first)))

@@ -1,4 +1,6 @@
-"""What the tests share: primes, wrong inputs, and the plane worked out by trying everything."""
+"""What the tests share: primes, right and wrong inputs, and the plane worked out by trying everything."""
+
+import itertools
 
 PRIMES = (3, 5, 7, 11, 13, 17, 19, 23, 29, 31)
 LARGEST = 4294967295
@@ -7,8 +9,8 @@ LARGEST = 4294967295
 WRONG_PRIMES = [p for p in range(1000) if p not in PRIMES] + [
     1009, 3 * 1009, 31 * 31, 65537, 2147483647, 2147483648, 4294967291, 4294967294, LARGEST]
 
-WRONG_LENGTHS = [[], [1], [1, 2], [0, 0], [1, 2, 3, 4], [0, 0, 1, 0], [1, 0, 0, 0, 1], [1, 1, 6, 0, 0, 0],
-                 [1, 2, 3, 4, 5, 6, 1], [0, 0, 1, 0, 0, 1, 0, 0], [1, 0, 0, 0, 1, 0, 0, 0, 1]]
+SIZES = {"point": 3, "map": 9, "conic": 6}
+UNIT = [1, 0, 0, 0, 1, 0, 0, 0, 1]
 
 
 def forms(p):
@@ -20,6 +22,55 @@ def forms(p):
                 if [n for n in (x, y, z) if n != 0][:1] == [1]:
                     found.append([x, y, z])
     return sorted(found)
+
+
+def normal(p, x):
+    """The form of x, found by trying every scale."""
+    for k in range(1, p):
+        scaled = [k * n % p for n in x]
+        if [n for n in scaled if n != 0][:1] == [1]:
+            return scaled
+    raise ValueError(x)
+
+
+def lies(p, x, l):
+    return sum(a * b for a, b in zip(x, l)) % p == 0
+
+
+def leibniz(m):
+    """The determinant as the sum over all orders of the columns, not reduced."""
+    total = 0
+    for order in itertools.permutations(range(3)):
+        swaps = sum(order[i] > order[j] for i in range(3) for j in range(i + 1, 3))
+        total += (-1) ** swaps * m[order[0]] * m[3 + order[1]] * m[6 + order[2]]
+    return total
+
+
+def aligned(p, *points):
+    """Whether some line has all of these points, found by trying every line."""
+    return any(all(lies(p, x, line) for x in points) for line in forms(p))
+
+
+def is_right(kind, p, numbers):
+    if kind == "map":
+        return leibniz(numbers) % p != 0
+    return any(n % p != 0 for n in numbers)
+
+
+def stream(seed):
+    """Numbers from 0 to LARGEST, the same ones at each run."""
+    state = seed
+    while True:
+        state = (state * 6364136223846793005 + 1442695040888963407) % 2 ** 64
+        yield state >> 32
+
+
+def draw(source, kind, p):
+    """The numbers of some point (or line), map or conic."""
+    while True:
+        numbers = [next(source) for place in range(SIZES[kind])]
+        if is_right(kind, p, numbers):
+            return numbers
 
 
 def highest(p, n):
@@ -35,16 +86,68 @@ def retold(p, x):
         told.append(scaled)
         told.append([k * n for n in x])
         told.append([n + p for n in scaled])
-        told.append([scaled[0] + p, scaled[1], scaled[2] + 5 * p])
+        told.append([n + (p, 0, 5 * p)[i % 3] for i, n in enumerate(scaled)])
         told.append([highest(p, n) for n in scaled])
-        told.append([scaled[0], highest(p, scaled[1]), scaled[2] + 1000 * p])
+        told.append([(n, highest(p, n), n + 1000 * p)[i % 3] for i, n in enumerate(scaled)])
     return told
 
 
-def naughts(p):
-    """Threes of numbers that are all 0 modulo p."""
-    return [[0, 0, 0], [p, 0, 0], [0, p, 0], [0, 0, p], [p, p, p], [2 * p, 3 * p, 0], [highest(p, 0)] * 3]
+def other_numbers(source, p, x):
+    """The numbers x told otherwise, in one way out of many."""
+    k = 1 + next(source) % (p - 1)
+    return [next(source) % (LARGEST // p) * p + k * n % p for n in x]
+
+
+def naughts(p, size=3):
+    """So many numbers that are all 0 modulo p."""
+    found = [[0] * size, [p] * size, [highest(p, 0)] * size, [(2 * p, 3 * p, 0)[i % 3] for i in range(size)]]
+    return found + [[p if i == place else 0 for i in range(size)] for place in range(size)]
+
+
+def wrong_lengths(size):
+    """Lists of each length from 0 to 9 but this one."""
+    found = []
+    for length in range(10):
+        if length != size:
+            found += [[1] * length, UNIT[:length], UNIT[9 - length:], list(range(1, length + 1)), [LARGEST] * length]
+    return found
+
+
+def singular(p):
+    """Nine numbers, not all 0, with a determinant of 0 modulo p, of rank 1 and 2."""
+    found = [[1, 0, 0, 0, 1, 0, 0, 0, 0], [1, 0, 0, 0, 1, 0, 0, 0, p], [1, 0, 0, 0, p, 0, 0, 0, 1],
+             [p, 0, 0, 0, 1, 0, 0, 0, 1], [1, 1, 0, 1, p + 1, 0, 0, 0, 1], [0, 1, 0, 0, 0, 1, 0, 0, 0],
+             [1, 2, 3, 4, 5, 6, 5, 7, 9], [1, 0, 2, 3, 0, 4, 5, 0, 6], [1, 2, 3, 0, 0, 0, 1, 1, 1],
+             [1, 2, 3, p + 1, p + 2, p + 3, 0, 1, 1], [0, 0, 1, 0, 0, 0, 0, 0, 0], [1] * 9,
+             [1, 2, 4, 2, 4, 8, 3, 6, 12], [0, 0, 0, 0, 0, 0, 0, 0, 1]]
+    return found + [[highest(p, n) for n in m] for m in found]
+
+
+def wrongs(kind, p):
+    """What is no point (or line), no map, no conic."""
+    found = wrong_lengths(SIZES[kind]) + naughts(p, SIZES[kind])
+    return found + singular(p) if kind == "map" else found
 
 
 def wrong_triples(p):
-    return WRONG_LENGTHS + naughts(p)
+    return wrongs("point", p)
+
+
+def wrong_calls(kinds, given):
+    """Of a call's arguments, p first, all that a wrong p, or one wrong list, or two, makes of them."""
+    p, rest = given[0], list(given[1:])
+    for wrong in WRONG_PRIMES:
+        yield (wrong, *rest)
+    places = [place for place, kind in enumerate(kinds) if kind in SIZES]
+    for place in places:
+        for numbers in wrongs(kinds[place], p):
+            yield (p, *rest[:place], numbers, *rest[place + 1:])
+    for first, second in itertools.combinations(places, 2):
+        for numbers in ([], [0] * SIZES[kinds[second]], [1] * 4, [p] * SIZES[kinds[second]]):
+            both = list(rest)
+            both[first] = [p] * SIZES[kinds[first]]
+            both[second] = numbers
+            yield (p, *both)
+    for wrong in (0, 1, 2, 9, 37, LARGEST):
+        for numbers in ([], [0] * 3, [0] * 9, [1] * 9, [wrong] * 6):
+            yield (wrong, *[numbers if kind in SIZES else one for kind, one in zip(kinds, rest)])

@@ -17,7 +17,28 @@ def calls():
         (desk.on, (7, [8, 16, 3], [4294967295, 1, 7])), (desk.on, (7, [7, 1, 0], [7, 7, 1])),
         (desk.on, (7, [8, 9, 10], [1, 1, 1])),
         (desk.on, (1, [8, 9, 10], [1, 1, 1])), (desk.on, (7, [7, 7, 7], [1, 1, 1])), (desk.on, (7, [1, 1, 1], [1])),
+        (desk.join, (7, [8, 7, 14], [0, 4, 7])), (desk.join, (7, [8, 16, 3], [3, 6, 9])),
+        (desk.join, (4, [8, 16, 3], [3, 6, 9])), (desk.join, (7, [8, 16, 3], [7, 7, 14])), (desk.join, (7, [], [1])),
+        (desk.cross, (7, [8, 0, 7], [0, 2, 0], [3, 3, 0], [8, 3, 0])),
+        (desk.cross, (7, [8, 0, 7], [0, 2, 0], [3, 3, 0], [3, 0, 0])),
+        (desk.cross, (7, [8, 0, 7], [0, 2, 0], [3, 3, 0], [8, 3, 1])),
+        (desk.cross, (7, [8, 0, 7], [0, 2, 0], [7, 0, 14], [8, 3, 0])),
+        (desk.fourth, (7, 5, [8, 0, 7], [0, 2, 0], [3, 3, 0])), (desk.fourth, (7, 7, [9, 0, 7], [0, 2, 0], [3, 3, 0])),
+        (desk.fourth, (7, 8, [8, 0, 7], [0, 2, 0], [3, 3, 0])), (desk.fourth, (7, 5, [8, 0, 7], [0, 2, 0], [3, 3])),
+        (desk.map_of, (7, [8, 0, 0], [0, 1, 0], [0, 0, 2], [1, 1, 1], [1, 2, 3], [7, 1, 0], [0, 0, 1], [15, 1, 1])),
+        (desk.map_of, (7, [8, 0, 0], [0, 1, 0], [0, 2, 0], [1, 1, 1], [1, 2, 3], [7, 1, 0], [0, 0, 1], [15, 1, 1])),
+        (desk.map_of, (7, [8, 0, 0], [0, 1, 0], [0, 0, 2], [1, 1, 1], [1, 2, 3], [7, 1, 0], [0, 0, 1], [14, 7, 7])),
     )
+
+
+class Sealed(list):
+    """A list that lets nothing change it, not for a while either."""
+
+    def refuse(self, *given):
+        raise AssertionError("changed")
+
+    append = clear = extend = insert = pop = remove = reverse = sort = refuse
+    __setitem__ = __delitem__ = __iadd__ = __imul__ = refuse
 
 
 class EveryCall(unittest.TestCase):
@@ -40,6 +61,11 @@ class EveryCall(unittest.TestCase):
             call(*given)
             self.assertEqual(given, before)
 
+    def test_what_is_handed_in_is_not_changed_for_a_while_either(self):
+        for call, given in calls():
+            sealed = [Sealed(one) if isinstance(one, list) else one for one in given]
+            self.assertEqual(call(*sealed), call(*given), (call, given))
+
     def test_the_same_lists_again_answer_the_same(self):
         for call, given in calls():
             self.assertEqual(call(*given), call(*given), (call, given))
@@ -61,6 +87,10 @@ class EveryCall(unittest.TestCase):
         x = [1, 2, 3]
         self.assertEqual(desk.on(7, x, x), [0, 1])
         self.assertEqual(desk.on(5, x, x), [0, 0])
+        self.assertEqual(desk.join(7, x, x), [-2])
+        self.assertEqual(desk.cross(7, x, x, x, x), [-2])
+        self.assertEqual(desk.fourth(7, 1, x, x, x), [-2])
+        self.assertEqual(desk.map_of(7, x, x, x, x, x, x, x, x), [-2])
         self.assertEqual(x, [1, 2, 3])
 
     def test_arguments_by_name(self):
@@ -68,6 +98,12 @@ class EveryCall(unittest.TestCase):
         self.assertEqual(desk.number(p=7, x=[0, 3, 5]), [0, 5])
         self.assertEqual(desk.nth(p=7, i=5), [0, 0, 1, 4])
         self.assertEqual(desk.on(p=7, x=[0, 3, 5], l=[1, 0, 0]), [0, 1])
+        self.assertEqual(desk.join(p=7, x=[1, 0, 0], y=[0, 1, 0]), [0, 0, 0, 1])
+        self.assertEqual(desk.cross(p=7, a=[1, 0, 0], b=[0, 1, 0], c=[1, 1, 0], d=[1, 3, 0]), [0, 5])
+        self.assertEqual(desk.fourth(p=7, r=5, a=[1, 0, 0], b=[0, 1, 0], c=[1, 1, 0]), [0, 1, 3, 0])
+        self.assertEqual(desk.map_of(p=7, a=[1, 0, 0], b=[0, 1, 0], c=[0, 0, 1], d=[1, 1, 1],
+                                     e=[1, 2, 3], f=[0, 1, 0], g=[0, 0, 1], h=[1, 1, 1]),
+                         [0, 1, 0, 0, 2, 6, 0, 3, 0, 5])
 
 
 if __name__ == "__main__":

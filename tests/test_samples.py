@@ -1,8 +1,10 @@
 """The tests' own samples are what they say."""
 
+import itertools
 import unittest
 
-from samples import LARGEST, PRIMES, WRONG_PRIMES, forms, highest, naughts, retold
+from samples import (LARGEST, PRIMES, SIZES, UNIT, WRONG_PRIMES, aligned, draw, forms, highest, is_right, leibniz, lies,
+                     naughts, normal, other_numbers, retold, singular, stream, wrong_calls, wrong_lengths)
 
 
 class Samples(unittest.TestCase):
@@ -17,11 +19,30 @@ class Samples(unittest.TestCase):
         for p in PRIMES:
             self.assertEqual(len(forms(p)), p * p + p + 1)
 
+    def test_normal_is_a_form(self):
+        for p in (3, 5, 7):
+            for x in itertools.product(range(p), repeat=3):
+                if any(x):
+                    self.assertIn(normal(p, x), forms(p))
+        with self.assertRaises(ValueError):
+            normal(5, [5, 0, 10])
+
     def test_retold_numbers_are_multiples_in_range(self):
         for p in PRIMES:
-            for told in retold(p, [0, 1, p - 1]):
-                self.assertEqual([n % p for n in told], [0, told[1] % p, (p - 1) * told[1] % p])
-                self.assertNotEqual(told[1] % p, 0)
+            for size in SIZES.values():
+                x = [0, 1] + [(p - 1) ** place % p for place in range(1, size - 1)]
+                for told in retold(p, x):
+                    self.assertEqual([n % p for n in told], [n * told[1] % p for n in x])
+                    self.assertNotEqual(told[1] % p, 0)
+                    self.assertTrue(all(0 <= n <= LARGEST for n in told))
+
+    def test_other_numbers_tell_the_same(self):
+        source = stream(1)
+        for p in PRIMES:
+            for kind in SIZES:
+                x = draw(source, kind, p)
+                told = other_numbers(source, p, x)
+                self.assertEqual(normal(p, told), normal(p, x))
                 self.assertTrue(all(0 <= n <= LARGEST for n in told))
 
     def test_highest_is_the_highest(self):
@@ -32,8 +53,46 @@ class Samples(unittest.TestCase):
 
     def test_naughts_are_0(self):
         for p in PRIMES:
-            for x in naughts(p):
-                self.assertEqual([n % p for n in x], [0, 0, 0])
+            for size in SIZES.values():
+                for x in naughts(p, size):
+                    self.assertEqual([n % p for n in x], [0] * size)
+
+    def test_wrong_lengths_are_all_but_one(self):
+        for size in SIZES.values():
+            self.assertEqual({len(x) for x in wrong_lengths(size)}, set(range(10)) - {size})
+
+    def test_leibniz(self):
+        self.assertEqual(leibniz(UNIT), 1)
+        self.assertEqual(leibniz([0, 1, 0, 1, 0, 0, 0, 0, 1]), -1)
+        self.assertEqual(leibniz([2, 3, 5, 7, 11, 13, 17, 19, 23]), -78)
+
+    def test_singular_have_a_determinant_of_0(self):
+        for p in PRIMES:
+            for m in singular(p):
+                self.assertEqual(leibniz(m) % p, 0, (p, m))
+                self.assertTrue(any(n % p != 0 for n in m), (p, m))
+
+    def test_aligned(self):
+        self.assertTrue(aligned(5, [1, 0, 0], [0, 1, 0], [3, 4, 5]))
+        self.assertFalse(aligned(5, [1, 0, 0], [0, 1, 0], [0, 0, 1]))
+        self.assertTrue(lies(5, [1, 2, 3], [1, 1, 4]))
+
+    def test_drawn_are_right_and_the_same_each_time(self):
+        for kind, size in SIZES.items():
+            first, second = stream(5), stream(5)
+            for p in PRIMES:
+                numbers = draw(first, kind, p)
+                self.assertEqual(len(numbers), size)
+                self.assertTrue(is_right(kind, p, numbers))
+                self.assertEqual(draw(second, kind, p), numbers)
+                self.assertTrue(all(0 <= n <= LARGEST for n in numbers))
+
+    def test_wrong_calls_keep_the_rest(self):
+        found = list(wrong_calls(["number", "point"], (7, 5, [1, 2, 3])))
+        self.assertIn((9, 5, [1, 2, 3]), found)
+        self.assertIn((7, 5, []), found)
+        self.assertIn((7, 5, [7, 7, 7]), found)
+        self.assertNotIn((7, 5, [1, 2, 3]), found)
 
 
 if __name__ == "__main__":
