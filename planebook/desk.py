@@ -103,6 +103,16 @@ def undone(p, m):
     return transposed(joined(p, rows[1], rows[2]) + joined(p, rows[2], rows[0]) + joined(p, rows[0], rows[1]))
 
 
+def applied(p, m, x):
+    """The matrix m times the column x."""
+    return [dot(p, row, x) for row in rows_of(m)]
+
+
+def is_map(p, numbers):
+    """Whether these are the numbers of a map."""
+    return len(numbers) == 9 and determinant(p, numbers) != 0
+
+
 def are_three_on_line(p, a, b, c):
     """Whether these are three different points on one line."""
     if are_same(p, a, b) or are_same(p, b, c) or are_same(p, a, c):
@@ -201,3 +211,32 @@ def map_of(p, a, b, c, d, e, f, g, h):
     if determinant(p, first) == 0 or determinant(p, second) == 0:
         return [-2]
     return [0] + form_of(p, product(p, second, undone(p, first)))
+
+
+def behind(p, m, n):
+    """The map that does what n does, then what m does."""
+    if not (p in ODD_PRIMES and is_map(p, m) and is_map(p, n)):
+        return [-1]
+    return [0] + form_of(p, product(p, m, n))
+
+
+def back(p, m):
+    """The map that undoes m."""
+    if not (p in ODD_PRIMES and is_map(p, m)):
+        return [-1]
+    return [0] + form_of(p, undone(p, m))
+
+
+def image(p, m, x):
+    """The point that the map m takes the point x to."""
+    if not (p in ODD_PRIMES and is_map(p, m) and are_triples(p, [x])):
+        return [-1]
+    return [0] + form_of(p, applied(p, m, x))
+
+
+def carried(p, m, l):
+    """The line on which the images of the line l's points are."""
+    if not (p in ODD_PRIMES and is_map(p, m) and are_triples(p, [l])):
+        return [-1]
+    # A point gives 0 by l just when its image gives 0 by l times the inverse of m.
+    return [0] + form_of(p, applied(p, transposed(undone(p, m)), l))

@@ -46,6 +46,11 @@ def leibniz(m):
     return total
 
 
+def taken(p, m, x):
+    """The numbers that the map m makes of x."""
+    return [sum(m[3 * row + column] * x[column] for column in range(3)) % p for row in range(3)]
+
+
 def aligned(p, *points):
     """Whether some line has all of these points, found by trying every line."""
     return any(all(lies(p, x, line) for x in points) for line in forms(p))
@@ -71,6 +76,13 @@ def draw(source, kind, p):
         numbers = [next(source) for place in range(SIZES[kind])]
         if is_right(kind, p, numbers):
             return numbers
+
+
+def all_maps(p):
+    """Every map in its form, p as small as 3."""
+    for rest in itertools.product(range(p), repeat=9):
+        if [n for n in rest if n != 0][:1] == [1] and leibniz(rest) % p != 0:
+            yield list(rest)
 
 
 def highest(p, n):

@@ -28,6 +28,13 @@ def calls():
         (desk.map_of, (7, [8, 0, 0], [0, 1, 0], [0, 0, 2], [1, 1, 1], [1, 2, 3], [7, 1, 0], [0, 0, 1], [15, 1, 1])),
         (desk.map_of, (7, [8, 0, 0], [0, 1, 0], [0, 2, 0], [1, 1, 1], [1, 2, 3], [7, 1, 0], [0, 0, 1], [15, 1, 1])),
         (desk.map_of, (7, [8, 0, 0], [0, 1, 0], [0, 0, 2], [1, 1, 1], [1, 2, 3], [7, 1, 0], [0, 0, 1], [14, 7, 7])),
+        (desk.behind, (7, [1, 2, 3, 0, 1, 4, 5, 6, 0], [0, 0, 8, 9, 0, 0, 7, 3, 14])),
+        (desk.behind, (7, [1, 2, 3, 0, 1, 4, 5, 6, 0], [0, 0, 8, 9, 0, 0, 7, 7, 14])),
+        (desk.back, (7, [1, 2, 3, 0, 1, 4, 5, 13, 7])), (desk.back, (7, [1, 2, 3, 0, 1, 4, 8, 9, 10])),
+        (desk.image, (7, [1, 2, 3, 0, 1, 4, 5, 13, 7], [8, 9, 10])), (desk.image, (7, [1] * 9, [8, 9, 10])),
+        (desk.image, (7, [1, 2, 3, 0, 1, 4, 5, 13, 7], [7, 7, 7])),
+        (desk.carried, (7, [1, 2, 3, 0, 1, 4, 5, 13, 7], [8, 9, 10])), (desk.carried, (7, [1] * 9, [8, 9, 10])),
+        (desk.carried, (6, [1, 2, 3, 0, 1, 4, 5, 13, 7], [8, 9, 10])),
     )
 
 
@@ -92,6 +99,10 @@ class EveryCall(unittest.TestCase):
         self.assertEqual(desk.fourth(7, 1, x, x, x), [-2])
         self.assertEqual(desk.map_of(7, x, x, x, x, x, x, x, x), [-2])
         self.assertEqual(x, [1, 2, 3])
+        m = [0, 0, 1, 1, 0, 0, 0, 1, 0]
+        self.assertEqual(desk.behind(7, m, m), [0, 0, 1, 0, 0, 0, 1, 1, 0, 0])
+        self.assertEqual(desk.image(7, m, m), [-1])
+        self.assertEqual(m, [0, 0, 1, 1, 0, 0, 0, 1, 0])
 
     def test_arguments_by_name(self):
         self.assertEqual(desk.form(p=7, x=[0, 3, 5]), [0, 0, 1, 4])
@@ -104,6 +115,11 @@ class EveryCall(unittest.TestCase):
         self.assertEqual(desk.map_of(p=7, a=[1, 0, 0], b=[0, 1, 0], c=[0, 0, 1], d=[1, 1, 1],
                                      e=[1, 2, 3], f=[0, 1, 0], g=[0, 0, 1], h=[1, 1, 1]),
                          [0, 1, 0, 0, 2, 6, 0, 3, 0, 5])
+        turn, shear = [0, 0, 1, 1, 0, 0, 0, 1, 0], [1, 2, 0, 0, 1, 0, 0, 0, 1]
+        self.assertEqual(desk.behind(p=7, m=turn, n=shear), [0, 0, 0, 1, 1, 2, 0, 0, 1, 0])
+        self.assertEqual(desk.back(p=7, m=shear), [0, 1, 5, 0, 0, 1, 0, 0, 0, 1])
+        self.assertEqual(desk.image(p=7, m=shear, x=[0, 1, 0]), [0, 1, 4, 0])
+        self.assertEqual(desk.carried(p=7, m=shear, l=[1, 0, 0]), [0, 1, 5, 0])
 
 
 if __name__ == "__main__":

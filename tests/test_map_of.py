@@ -5,14 +5,9 @@ import unittest
 
 from planebook.desk import map_of
 from samples import (LARGEST, PRIMES, UNIT, aligned, draw, forms, leibniz, normal, other_numbers, retold, stream,
-                     wrong_calls)
+                     taken, wrong_calls)
 
 BASE = [[1, 0, 0], [0, 1, 0], [0, 0, 1], [1, 1, 1]]
-
-
-def taken(p, m, x):
-    """The numbers that the map m makes of x."""
-    return [sum(m[3 * row + column] * x[column] for column in range(3)) % p for row in range(3)]
 
 
 def is_frame(p, four):

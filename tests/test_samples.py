@@ -3,8 +3,9 @@
 import itertools
 import unittest
 
-from samples import (LARGEST, PRIMES, SIZES, UNIT, WRONG_PRIMES, aligned, draw, forms, highest, is_right, leibniz, lies,
-                     naughts, normal, other_numbers, retold, singular, stream, wrong_calls, wrong_lengths)
+from samples import (LARGEST, PRIMES, SIZES, UNIT, WRONG_PRIMES, aligned, all_maps, draw, forms, highest, is_right,
+                     leibniz, lies, naughts, normal, other_numbers, retold, singular, stream, taken, wrong_calls,
+                     wrong_lengths)
 
 
 class Samples(unittest.TestCase):
@@ -71,6 +72,13 @@ class Samples(unittest.TestCase):
             for m in singular(p):
                 self.assertEqual(leibniz(m) % p, 0, (p, m))
                 self.assertTrue(any(n % p != 0 for n in m), (p, m))
+
+    def test_there_are_as_many_maps_as_fours_without_three_on_a_line(self):
+        self.assertEqual(len(list(all_maps(3))), 13 * 12 * 9 * 4)
+
+    def test_taken(self):
+        self.assertEqual(taken(31, [1, 2, 3, 4, 5, 6, 7, 8, 10], [1, 0, 2]), [7, 16, 27])
+        self.assertEqual(taken(5, [1, 2, 3, 4, 5, 6, 7, 8, 10], [1, 1, 0]), [3, 4, 0])
 
     def test_aligned(self):
         self.assertTrue(aligned(5, [1, 0, 0], [0, 1, 0], [3, 4, 5]))
