@@ -4,6 +4,7 @@
 """
 
 ODD_PRIMES = (3, 5, 7, 11, 13, 17, 19, 23, 29, 31)
+IDENTITY = (1, 0, 0, 0, 1, 0, 0, 0, 1)
 
 
 def first_not_zero(p, numbers):
@@ -34,24 +35,9 @@ def form_of(p, numbers):
     return [scale * n % p for n in numbers]
 
 
-def place_of(p, point):
-    """How many points are before this one, which is in its form."""
-    # In order: 0 0 1 alone, then the p points 0 1 z, then the p * p points 1 y z.
-    if point[0] == 1:
-        return 1 + p + p * point[1] + point[2]
-    if point[1] == 1:
-        return 1 + point[2]
-    return 0
-
-
-def point_at(p, i):
-    """The point, in its form, that has i before it; i is at most p * p + p."""
-    if i == 0:
-        return [0, 0, 1]
-    if i <= p:
-        return [0, 1, i - 1]
-    rest = i - 1 - p
-    return [1, rest // p, rest % p]
+def all_points(p):
+    """Every point in its form, in order; every line likewise."""
+    return [[0, 0, 1]] + [[0, 1, z] for z in range(p)] + [[1, i // p, i % p] for i in range(p * p)]
 
 
 def dot(p, x, y):
@@ -138,6 +124,61 @@ def frame(p, a, b, c, d):
     return transposed([first * n for n in a] + [second * n for n in b] + [third * n for n in c])
 
 
+def leaves_all(p, m):
+    """Whether the map m leaves all points where they are."""
+    return form_of(p, m) == list(IDENTITY)
+
+
+def rank_of(p, m):
+    """The rank of the matrix m, whose numbers are not all 0."""
+    if determinant(p, m) != 0:
+        return 3
+    # What undone gives are the determinants of two rows by two columns; at rank 1 all of them are 0.
+    return 1 if first_not_zero(p, undone(p, m)) == 0 else 2
+
+
+def line_that_stays(p, m):
+    """The line all of whose points the map m leaves, empty if there is none; m does not leave all points."""
+    # What m multiplies by k stays: that's what gives 0 by each row of m - k, at rank 1 by one row alone.
+    for k in range(1, p):
+        rest = mixed(p, 1, m, -k, IDENTITY)
+        if rank_of(p, rest) == 1:
+            return [form_of(p, row) for row in rows_of(rest) if first_not_zero(p, row) != 0][0]
+    return []
+
+
+def counted(triples):
+    """How many triples there are, then their numbers."""
+    return [len(triples)] + [triples[i // 3][i % 3] for i in range(3 * len(triples))]
+
+
+def is_conic(p, numbers):
+    """Whether these are the numbers of a conic."""
+    return len(numbers) == 6 and first_not_zero(p, numbers) != 0
+
+
+def value_at(p, k, x):
+    """What the conic k makes of the numbers x: 0 if the point is on it."""
+    squares = k[0] * x[0] * x[0] + k[1] * x[1] * x[1] + k[2] * x[2] * x[2]
+    return (squares + k[3] * x[1] * x[2] + k[4] * x[0] * x[2] + k[5] * x[0] * x[1]) % p
+
+
+def matrix_of(k):
+    """The matrix of the conic k."""
+    return [2 * k[0], k[5], k[4], k[5], 2 * k[1], k[3], k[4], k[3], 2 * k[2]]
+
+
+def narrowed(p, conics, x):
+    """Of all sums of multiples of the conics those with the point x on them, told by conics again."""
+    amounts = [value_at(p, k, x) for k in conics]
+    lead = first_not_zero(p, amounts)
+    if lead == 0:
+        return conics
+    # Each but one has so much of that one taken away that it makes 0 of x.
+    i = amounts.index(lead)
+    return [mixed(p, lead, conics[j], -amounts[j], conics[i]) for j in range(len(conics)) if j != i]
+
+
 def form(p, x):
     """The form of the point or line x."""
     if not (p in ODD_PRIMES and are_triples(p, [x])):
@@ -149,7 +190,7 @@ def number(p, x):
     """How many points are before the point x in order."""
     if not (p in ODD_PRIMES and are_triples(p, [x])):
         return [-1]
-    return [0, place_of(p, form_of(p, x))]
+    return [0, all_points(p).index(form_of(p, x))]
 
 
 def nth(p, i):
@@ -158,7 +199,7 @@ def nth(p, i):
         return [-1]
     if i > p * p + p:
         return [-2]
-    return [0] + point_at(p, i)
+    return [0] + all_points(p)[i]
 
 
 def on(p, x, l):
@@ -240,3 +281,47 @@ def carried(p, m, l):
         return [-1]
     # A point gives 0 by l just when its image gives 0 by l times the inverse of m.
     return [0] + form_of(p, applied(p, transposed(undone(p, m)), l))
+
+
+def order(p, m):
+    """The least k above 0 such that m done k times leaves all points where they are."""
+    if not (p in ODD_PRIMES and is_map(p, m)):
+        return [-1]
+    k = 1
+    power = m
+    while not leaves_all(p, power):
+        power = product(p, m, power)
+        k = k + 1
+    return [0, k]
+
+
+def fixed(p, m):
+    """2 if all points stay, else 1 and the line whose points stay, or 0; then the lone points that stay, counted."""
+    if not (p in ODD_PRIMES and is_map(p, m)):
+        return [-1]
+    if leaves_all(p, m):
+        return [0, 2, 0]
+    stay = [x for x in all_points(p) if are_same(p, applied(p, m, x), x)]
+    line = line_that_stays(p, m)
+    if line == []:
+        return [0, 0] + counted(stay)
+    return [0, 1] + line + counted([x for x in stay if dot(p, x, line) != 0])
+
+
+def conic(p, a, b, c, d, e):
+    """The one conic that five points are on; -2: there is more than one."""
+    if not (p in ODD_PRIMES and are_triples(p, [a, b, c, d, e])):
+        return [-1]
+    conics = [[0] * i + [1] + [0] * (5 - i) for i in range(6)]
+    for x in [a, b, c, d, e]:
+        conics = narrowed(p, conics, x)
+    if len(conics) > 1:
+        return [-2]
+    return [0] + form_of(p, conics[0])
+
+
+def rank(p, k):
+    """The rank of the conic k."""
+    if not (p in ODD_PRIMES and is_conic(p, k)):
+        return [-1]
+    return [0, rank_of(p, matrix_of(k))]

@@ -10,6 +10,15 @@ WRONG_PRIMES = [p for p in range(1000) if p not in PRIMES] + [
     1009, 3 * 1009, 31 * 31, 65537, 2147483647, 2147483648, 4294967291, 4294967294, LARGEST]
 
 SIZES = {"point": 3, "map": 9, "conic": 6}
+
+# Every call, and what it is handed behind p; a line is told like a point.
+CALLS = {
+    "form": ["point"], "number": ["point"], "nth": ["number"], "on": ["point"] * 2,
+    "join": ["point"] * 2, "cross": ["point"] * 4, "fourth": ["number"] + ["point"] * 3, "map_of": ["point"] * 8,
+    "behind": ["map"] * 2, "back": ["map"], "image": ["map", "point"], "carried": ["map", "point"],
+    "order": ["map"], "fixed": ["map"], "conic": ["point"] * 5, "rank": ["conic"],
+}
+
 UNIT = [1, 0, 0, 0, 1, 0, 0, 0, 1]
 
 
@@ -51,6 +60,50 @@ def taken(p, m, x):
     return [sum(m[3 * row + column] * x[column] for column in range(3)) % p for row in range(3)]
 
 
+def times(p, m, n):
+    """The matrix m times the matrix n."""
+    return [sum(m[3 * row + k] * n[3 * k + column] for k in range(3)) % p for row in range(3) for column in range(3)]
+
+
+def undoing(p, m):
+    """A matrix that undoes m, found row by row by trying every row."""
+    columns = [m[0::3], m[1::3], m[2::3]]
+    rows = []
+    for place in range(3):
+        rows += [x for x in forms(p) if [lies(p, x, column) for column in columns].count(True) == 2
+                 and not lies(p, x, columns[place])]
+    scales = [pow(sum(a * b for a, b in zip(row, column)), -1, p) for row, column in zip(rows, columns)]
+    return [scale * n % p for scale, row in zip(scales, rows) for n in row]
+
+
+def changed(p, g, m):
+    """What the map m is if g's images are taken for the points."""
+    return times(p, g, times(p, m, undoing(p, g)))
+
+
+def value(p, k, x):
+    a, b, c, d, e, f = k
+    return (a * x[0] ** 2 + b * x[1] ** 2 + c * x[2] ** 2 + d * x[1] * x[2] + e * x[0] * x[2] + f * x[0] * x[1]) % p
+
+
+def two_lines(p, l, m):
+    """The conic that is the two lines l and m: rank 2, or 1 if they are the same."""
+    return [l[0] * m[0] % p, l[1] * m[1] % p, l[2] * m[2] % p,
+            (l[1] * m[2] + l[2] * m[1]) % p, (l[0] * m[2] + l[2] * m[0]) % p, (l[0] * m[1] + l[1] * m[0]) % p]
+
+
+def squares(p, g, scales):
+    """The sum of the squares of g's rows times the scales; its rank is the number of scales that aren't 0."""
+    terms = [[scale * n for n in two_lines(p, g[3 * row:3 * row + 3], g[3 * row:3 * row + 3])]
+             for row, scale in enumerate(scales)]
+    return [sum(column) % p for column in zip(*terms)]
+
+
+def no_square(p):
+    """The least number that no number's square is modulo p."""
+    return min(set(range(1, p)) - {n * n % p for n in range(p)})
+
+
 def aligned(p, *points):
     """Whether some line has all of these points, found by trying every line."""
     return any(all(lies(p, x, line) for x in points) for line in forms(p))
@@ -82,6 +135,13 @@ def all_maps(p):
     """Every map in its form, p as small as 3."""
     for rest in itertools.product(range(p), repeat=9):
         if [n for n in rest if n != 0][:1] == [1] and leibniz(rest) % p != 0:
+            yield list(rest)
+
+
+def all_conics(p):
+    """Every conic in its form, p as small as 5."""
+    for rest in itertools.product(range(p), repeat=6):
+        if [n for n in rest if n != 0][:1] == [1]:
             yield list(rest)
 
 

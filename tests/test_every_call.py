@@ -35,6 +35,14 @@ def calls():
         (desk.image, (7, [1, 2, 3, 0, 1, 4, 5, 13, 7], [7, 7, 7])),
         (desk.carried, (7, [1, 2, 3, 0, 1, 4, 5, 13, 7], [8, 9, 10])), (desk.carried, (7, [1] * 9, [8, 9, 10])),
         (desk.carried, (6, [1, 2, 3, 0, 1, 4, 5, 13, 7], [8, 9, 10])),
+        (desk.order, (7, [8, 7, 0, 0, 2, 0, 0, 0, 4])), (desk.order, (7, [8, 7, 0, 0, 1, 0, 14, 0, 1])),
+        (desk.order, (7, [8, 7, 0, 0, 2, 0, 0, 0, 14])), (desk.order, (31, [0, 0, 3, 1, 31, 1, 0, 1, 0])),
+        (desk.fixed, (7, [8, 7, 0, 0, 2, 0, 0, 0, 4])), (desk.fixed, (7, [8, 7, 0, 0, 1, 0, 14, 0, 1])),
+        (desk.fixed, (7, [8, 7, 0, 0, 1, 0, 14, 0, 2])), (desk.fixed, (7, [8, 7, 0, 0, 2, 0, 0, 0, 14])),
+        (desk.conic, (7, [1, 7, 8], [0, 8, 1], [6, 0, 1], [0, 6, 1], [9, 2, 1])),
+        (desk.conic, (7, [1, 7, 8], [0, 8, 1], [6, 0, 1], [2, 14, 9], [9, 2, 1])),
+        (desk.conic, (7, [1, 7, 8], [0, 8, 1], [6, 0, 1], [0, 6, 1], [7, 7, 7])),
+        (desk.rank, (7, [8, 1, 6, 7, 0, 0])), (desk.rank, (7, [7, 1, 6, 7, 0, 0])), (desk.rank, (7, [7] * 6)),
     )
 
 
@@ -98,6 +106,7 @@ class EveryCall(unittest.TestCase):
         self.assertEqual(desk.cross(7, x, x, x, x), [-2])
         self.assertEqual(desk.fourth(7, 1, x, x, x), [-2])
         self.assertEqual(desk.map_of(7, x, x, x, x, x, x, x, x), [-2])
+        self.assertEqual(desk.conic(7, x, x, x, x, x), [-2])
         self.assertEqual(x, [1, 2, 3])
         m = [0, 0, 1, 1, 0, 0, 0, 1, 0]
         self.assertEqual(desk.behind(7, m, m), [0, 0, 1, 0, 0, 0, 1, 1, 0, 0])
@@ -120,6 +129,11 @@ class EveryCall(unittest.TestCase):
         self.assertEqual(desk.back(p=7, m=shear), [0, 1, 5, 0, 0, 1, 0, 0, 0, 1])
         self.assertEqual(desk.image(p=7, m=shear, x=[0, 1, 0]), [0, 1, 4, 0])
         self.assertEqual(desk.carried(p=7, m=shear, l=[1, 0, 0]), [0, 1, 5, 0])
+        self.assertEqual(desk.order(p=7, m=shear), [0, 7])
+        self.assertEqual(desk.fixed(p=7, m=shear), [0, 1, 0, 1, 0, 0])
+        self.assertEqual(desk.conic(p=7, a=[1, 0, 1], b=[0, 1, 1], c=[6, 0, 1], d=[0, 6, 1], e=[2, 2, 1]),
+                         [0, 1, 1, 6, 0, 0, 0])
+        self.assertEqual(desk.rank(p=7, k=[1, 1, 6, 0, 0, 0]), [0, 3])
 
 
 if __name__ == "__main__":

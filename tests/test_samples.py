@@ -3,9 +3,9 @@
 import itertools
 import unittest
 
-from samples import (LARGEST, PRIMES, SIZES, UNIT, WRONG_PRIMES, aligned, all_maps, draw, forms, highest, is_right,
-                     leibniz, lies, naughts, normal, other_numbers, retold, singular, stream, taken, wrong_calls,
-                     wrong_lengths)
+from samples import (LARGEST, PRIMES, SIZES, UNIT, WRONG_PRIMES, aligned, all_conics, all_maps, draw, forms, highest,
+                     is_right, leibniz, lies, naughts, no_square, normal, other_numbers, retold, singular, squares,
+                     stream, taken, times, two_lines, undoing, value, wrong_calls, wrong_lengths)
 
 
 class Samples(unittest.TestCase):
@@ -79,6 +79,31 @@ class Samples(unittest.TestCase):
     def test_taken(self):
         self.assertEqual(taken(31, [1, 2, 3, 4, 5, 6, 7, 8, 10], [1, 0, 2]), [7, 16, 27])
         self.assertEqual(taken(5, [1, 2, 3, 4, 5, 6, 7, 8, 10], [1, 1, 0]), [3, 4, 0])
+
+    def test_times_and_undoing(self):
+        source = stream(4)
+        for p in PRIMES:
+            m, n, x = draw(source, "map", p), draw(source, "map", p), draw(source, "point", p)
+            self.assertEqual(taken(p, times(p, m, n), x), taken(p, m, taken(p, n, x)))
+            self.assertEqual(times(p, m, undoing(p, m)), UNIT)
+            self.assertEqual(times(p, undoing(p, m), m), UNIT)
+
+    def test_conics_of_lines(self):
+        source = stream(6)
+        for p in PRIMES:
+            l, m, g = draw(source, "point", p), draw(source, "point", p), draw(source, "map", p)
+            for x in forms(p):
+                self.assertEqual(value(p, two_lines(p, l, m), x) == 0, lies(p, x, l) or lies(p, x, m))
+                first, second, third = taken(p, g, x)
+                self.assertEqual(value(p, squares(p, g, (1, 2, 5)), x),
+                                 (first * first + 2 * second * second + 5 * third * third) % p)
+
+    def test_there_are_as_many_conics(self):
+        for p in (3, 5):
+            self.assertEqual(len(list(all_conics(p))), (p ** 6 - 1) // (p - 1))
+
+    def test_no_square(self):
+        self.assertEqual([no_square(p) for p in PRIMES], [2, 2, 3, 2, 2, 3, 2, 5, 2, 3])
 
     def test_aligned(self):
         self.assertTrue(aligned(5, [1, 0, 0], [0, 1, 0], [3, 4, 5]))
