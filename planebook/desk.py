@@ -1,6 +1,6 @@
 """The calls. Each answers a list: 0 and what is asked for, or the number of a refusal alone.
 
--1: p is no odd prime up to 31, or something handed over is not what it should be. -2: as the call tells.
+-1: p is no odd prime up to 31, or something handed over is not what it should be. -2, -3: as the call tells.
 """
 
 ODD_PRIMES = (3, 5, 7, 11, 13, 17, 19, 23, 29, 31)
@@ -168,6 +168,16 @@ def matrix_of(k):
     return [2 * k[0], k[5], k[4], k[5], 2 * k[1], k[3], k[4], k[3], 2 * k[2]]
 
 
+def points_of(p, k):
+    """The points on the conic k, in order."""
+    return [x for x in all_points(p) if value_at(p, k, x) == 0]
+
+
+def those_on(p, triples, x):
+    """Of points those that are on the line x, of lines those that the point x is on."""
+    return [y for y in triples if dot(p, x, y) == 0]
+
+
 def narrowed(p, conics, x):
     """Of all sums of multiples of the conics those with the point x on them, told by conics again."""
     amounts = [value_at(p, k, x) for k in conics]
@@ -325,3 +335,35 @@ def rank(p, k):
     if not (p in ODD_PRIMES and is_conic(p, k)):
         return [-1]
     return [0, rank_of(p, matrix_of(k))]
+
+
+def points(p, k):
+    """How many points are on the conic k."""
+    if not (p in ODD_PRIMES and is_conic(p, k)):
+        return [-1]
+    return [0, len(points_of(p, k))]
+
+
+def polar(p, k, x):
+    """The line that the matrix of the conic k makes of the point x; -3: the rank is not 3."""
+    if not (p in ODD_PRIMES and is_conic(p, k) and are_triples(p, [x])):
+        return [-1]
+    if rank_of(p, matrix_of(k)) != 3:
+        return [-3]
+    return [0] + form_of(p, applied(p, matrix_of(k), x))
+
+
+def pole(p, k, l):
+    """The point whose polar the line l is; -3: the rank is not 3."""
+    if not (p in ODD_PRIMES and is_conic(p, k) and are_triples(p, [l])):
+        return [-1]
+    if rank_of(p, matrix_of(k)) != 3:
+        return [-3]
+    return [0] + form_of(p, applied(p, undone(p, matrix_of(k)), l))
+
+
+def crossed(p, k, l):
+    """The points on both the conic k and the line l, counted."""
+    if not (p in ODD_PRIMES and is_conic(p, k) and are_triples(p, [l])):
+        return [-1]
+    return [0] + counted(those_on(p, points_of(p, k), l))

@@ -17,6 +17,7 @@ CALLS = {
     "join": ["point"] * 2, "cross": ["point"] * 4, "fourth": ["number"] + ["point"] * 3, "map_of": ["point"] * 8,
     "behind": ["map"] * 2, "back": ["map"], "image": ["map", "point"], "carried": ["map", "point"],
     "order": ["map"], "fixed": ["map"], "conic": ["point"] * 5, "rank": ["conic"],
+    "points": ["conic"], "polar": ["conic", "point"], "pole": ["conic", "point"], "crossed": ["conic", "point"],
 }
 
 UNIT = [1, 0, 0, 0, 1, 0, 0, 0, 1]
@@ -102,6 +103,23 @@ def squares(p, g, scales):
 def no_square(p):
     """The least number that no number's square is modulo p."""
     return min(set(range(1, p)) - {n * n % p for n in range(p)})
+
+
+def conics_of(p, source):
+    """A conic of each kind, as (rank, how many points are on it, the conic in some numbers)."""
+    n, found = no_square(p), []
+    for rank, count, scales in ((1, p + 1, (1, 0, 0)), (1, p + 1, (0, n, 0)), (2, 2 * p + 1, (1, p - 1, 0)),
+                                (2, 2 * p + 1, (0, n, p - n)), (2, 1, (1, p - n, 0)), (2, 1, (0, n, p - 1)),
+                                (3, p + 1, (1, 1, 1)), (3, p + 1, (1, 1, n)), (3, p + 1, (n, 1, p - 1))):
+        found.append((rank, count, other_numbers(source, p, squares(p, draw(source, "map", p), scales))))
+    return found
+
+
+def polar_of(p, k, x):
+    """The line that the words tell, in its form."""
+    a, b, c, d, e, f = k
+    return normal(p, [2 * a * x[0] + f * x[1] + e * x[2], f * x[0] + 2 * b * x[1] + d * x[2],
+                      e * x[0] + d * x[1] + 2 * c * x[2]])
 
 
 def aligned(p, *points):

@@ -43,6 +43,12 @@ def calls():
         (desk.conic, (7, [1, 7, 8], [0, 8, 1], [6, 0, 1], [2, 14, 9], [9, 2, 1])),
         (desk.conic, (7, [1, 7, 8], [0, 8, 1], [6, 0, 1], [0, 6, 1], [7, 7, 7])),
         (desk.rank, (7, [8, 1, 6, 7, 0, 0])), (desk.rank, (7, [7, 1, 6, 7, 0, 0])), (desk.rank, (7, [7] * 6)),
+        (desk.points, (7, [8, 1, 6, 7, 0, 0])), (desk.points, (7, [7, 1, 6, 7, 0, 0])), (desk.points, (7, [7] * 6)),
+        (desk.polar, (7, [8, 1, 6, 7, 0, 0], [8, 9, 10])), (desk.polar, (7, [7, 1, 6, 7, 0, 0], [8, 9, 10])),
+        (desk.polar, (7, [7, 1, 6, 7, 0, 0], [7, 0, 0])), (desk.pole, (7, [8, 1, 6, 7, 0, 0], [8, 9, 10])),
+        (desk.pole, (7, [7, 1, 6, 7, 0, 0], [8, 9, 10])), (desk.pole, (7, [7, 1, 6, 7, 0, 0], [7, 0, 0])),
+        (desk.crossed, (7, [8, 1, 6, 7, 0, 0], [7, 9, 0])), (desk.crossed, (7, [7, 1, 6, 7, 0, 0], [0, 8, 6])),
+        (desk.crossed, (7, [7, 1, 6, 7, 0], [0, 8, 6])),
     )
 
 
@@ -67,7 +73,7 @@ class EveryCall(unittest.TestCase):
     def test_a_refusal_is_its_number_alone(self):
         for call, given in calls():
             answer = call(*given)
-            self.assertIn(answer[0], (0, -1, -2))
+            self.assertIn(answer[0], (0, -1, -2, -3))
             self.assertEqual(answer[0] < 0, len(answer) == 1, (call, given))
 
     def test_what_is_handed_in_stays(self):
@@ -133,7 +139,12 @@ class EveryCall(unittest.TestCase):
         self.assertEqual(desk.fixed(p=7, m=shear), [0, 1, 0, 1, 0, 0])
         self.assertEqual(desk.conic(p=7, a=[1, 0, 1], b=[0, 1, 1], c=[6, 0, 1], d=[0, 6, 1], e=[2, 2, 1]),
                          [0, 1, 1, 6, 0, 0, 0])
-        self.assertEqual(desk.rank(p=7, k=[1, 1, 6, 0, 0, 0]), [0, 3])
+        circle = [1, 1, 6, 0, 0, 0]
+        self.assertEqual(desk.rank(p=7, k=circle), [0, 3])
+        self.assertEqual(desk.points(p=7, k=circle), [0, 8])
+        self.assertEqual(desk.polar(p=7, k=circle, x=[1, 0, 1]), [0, 1, 0, 6])
+        self.assertEqual(desk.pole(p=7, k=circle, l=[1, 0, 6]), [0, 1, 0, 1])
+        self.assertEqual(desk.crossed(p=7, k=circle, l=[1, 0, 0]), [0, 2, 0, 1, 1, 0, 1, 6])
 
 
 if __name__ == "__main__":

@@ -3,9 +3,9 @@
 import itertools
 import unittest
 
-from samples import (LARGEST, PRIMES, SIZES, UNIT, WRONG_PRIMES, aligned, all_conics, all_maps, draw, forms, highest,
-                     is_right, leibniz, lies, naughts, no_square, normal, other_numbers, retold, singular, squares,
-                     stream, taken, times, two_lines, undoing, value, wrong_calls, wrong_lengths)
+from samples import (LARGEST, PRIMES, SIZES, UNIT, WRONG_PRIMES, aligned, all_conics, all_maps, conics_of, draw, forms,
+                     highest, is_right, leibniz, lies, naughts, no_square, normal, other_numbers, polar_of, retold,
+                     singular, squares, stream, taken, times, two_lines, undoing, value, wrong_calls, wrong_lengths)
 
 
 class Samples(unittest.TestCase):
@@ -97,6 +97,18 @@ class Samples(unittest.TestCase):
                 first, second, third = taken(p, g, x)
                 self.assertEqual(value(p, squares(p, g, (1, 2, 5)), x),
                                  (first * first + 2 * second * second + 5 * third * third) % p)
+
+    def test_conics_of_each_kind_have_so_many_points(self):
+        source = stream(7)
+        for p in PRIMES:
+            for rank, count, k in conics_of(p, source):
+                self.assertEqual(len([x for x in forms(p) if value(p, k, x) == 0]), count, (p, k))
+                a, b, c, d, e, f = k
+                self.assertEqual(leibniz([2 * a, f, e, f, 2 * b, d, e, d, 2 * c]) % p != 0, rank == 3, (p, k))
+
+    def test_polar_of(self):
+        self.assertEqual(polar_of(7, [1, 1, 6, 0, 0, 0], [1, 0, 1]), [1, 0, 6])
+        self.assertEqual(polar_of(7, [0, 0, 0, 1, 2, 3], [1, 0, 0]), [0, 1, 3])
 
     def test_there_are_as_many_conics(self):
         for p in (3, 5):
