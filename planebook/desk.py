@@ -116,7 +116,7 @@ def weights(p, a, b, x):
 
 def frame(p, a, b, c, d):
     """A matrix that takes 1 0 0, 0 1 0, 0 0 1, 1 1 1 to the four points; its determinant is 0 if there is none."""
-    # The three are scaled so that they add up to d. The determinant is the product of those of all
+    # Scaled so, the first three add up to a multiple of d. The determinant is the product of those of all
     # threes out of the four, so it is 0 just when three of them are on one line.
     first = determinant(p, d + b + c)
     second = determinant(p, a + d + c)
@@ -367,3 +367,31 @@ def crossed(p, k, l):
     if not (p in ODD_PRIMES and is_conic(p, k) and are_triples(p, [l])):
         return [-1]
     return [0] + counted(those_on(p, points_of(p, k), l))
+
+
+def touched(p, k, x):
+    """The lines through the point x with just one point in common with the conic k, counted; -3: rank is not 3."""
+    if not (p in ODD_PRIMES and is_conic(p, k) and are_triples(p, [x])):
+        return [-1]
+    if rank_of(p, matrix_of(k)) != 3:
+        return [-3]
+    curve = points_of(p, k)
+    lines = those_on(p, all_points(p), x)
+    return [0] + counted([l for l in lines if len(those_on(p, curve, l)) == 1])
+
+
+def shared(p, j, k):
+    """The points on both conics, counted."""
+    if not (p in ODD_PRIMES and is_conic(p, j) and is_conic(p, k)):
+        return [-1]
+    return [0] + counted([x for x in points_of(p, j) if value_at(p, k, x) == 0])
+
+
+def moved(p, m, k):
+    """The conic k with what the back of the map m makes of x, y, z put in for these."""
+    if not (p in ODD_PRIMES and is_map(p, m) and is_conic(p, k)):
+        return [-1]
+    undoing = undone(p, m)
+    s = product(p, transposed(undoing), product(p, matrix_of(k), undoing))
+    # The matrix has a, b, c twofold and d, e, f once: what is twice the conic tells it without halving.
+    return [0] + form_of(p, [s[0], s[4], s[8], 2 * s[5], 2 * s[2], 2 * s[1]])

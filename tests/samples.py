@@ -18,6 +18,7 @@ CALLS = {
     "behind": ["map"] * 2, "back": ["map"], "image": ["map", "point"], "carried": ["map", "point"],
     "order": ["map"], "fixed": ["map"], "conic": ["point"] * 5, "rank": ["conic"],
     "points": ["conic"], "polar": ["conic", "point"], "pole": ["conic", "point"], "crossed": ["conic", "point"],
+    "touched": ["conic", "point"], "shared": ["conic"] * 2, "moved": ["map", "conic"],
 }
 
 UNIT = [1, 0, 0, 0, 1, 0, 0, 0, 1]

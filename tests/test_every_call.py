@@ -4,6 +4,7 @@ import copy
 import unittest
 
 from planebook import desk
+from samples import CALLS
 
 
 def calls():
@@ -49,6 +50,11 @@ def calls():
         (desk.pole, (7, [7, 1, 6, 7, 0, 0], [8, 9, 10])), (desk.pole, (7, [7, 1, 6, 7, 0, 0], [7, 0, 0])),
         (desk.crossed, (7, [8, 1, 6, 7, 0, 0], [7, 9, 0])), (desk.crossed, (7, [7, 1, 6, 7, 0, 0], [0, 8, 6])),
         (desk.crossed, (7, [7, 1, 6, 7, 0], [0, 8, 6])),
+        (desk.touched, (7, [8, 1, 6, 7, 0, 0], [7, 8, 0])), (desk.touched, (7, [8, 1, 6, 7, 0, 0], [9, 7, 2])),
+        (desk.touched, (7, [7, 1, 6, 7, 0, 0], [7, 8, 0])), (desk.touched, (7, [7, 1, 6, 7, 0, 0], [7, 7, 0])),
+        (desk.shared, (7, [8, 1, 6, 7, 0, 0], [7, 1, 6, 7, 0, 0])), (desk.shared, (7, [8, 1, 6, 7, 0, 0], [7] * 6)),
+        (desk.moved, (7, [1, 2, 3, 0, 1, 4, 5, 13, 7], [8, 1, 6, 7, 0, 0])),
+        (desk.moved, (7, [1] * 9, [8, 1, 6, 7, 0, 0])), (desk.moved, (7, [1, 2, 3, 0, 1, 4, 5, 13, 7], [7] * 6)),
     )
 
 
@@ -63,6 +69,9 @@ class Sealed(list):
 
 
 class EveryCall(unittest.TestCase):
+    def test_none_is_left_out(self):
+        self.assertEqual({call.__name__ for call, given in calls()}, set(CALLS))
+
     def test_answers_are_lists_of_whole_numbers(self):
         for call, given in calls():
             answer = call(*given)
@@ -118,6 +127,9 @@ class EveryCall(unittest.TestCase):
         self.assertEqual(desk.behind(7, m, m), [0, 0, 1, 0, 0, 0, 1, 1, 0, 0])
         self.assertEqual(desk.image(7, m, m), [-1])
         self.assertEqual(m, [0, 0, 1, 1, 0, 0, 0, 1, 0])
+        k = [0, 1, 0, 0, 2, 0]
+        self.assertEqual(desk.shared(3, k, k), [0, 4, 0, 0, 1, 1, 0, 0, 1, 1, 1, 1, 2, 1])
+        self.assertEqual(k, [0, 1, 0, 0, 2, 0])
 
     def test_arguments_by_name(self):
         self.assertEqual(desk.form(p=7, x=[0, 3, 5]), [0, 0, 1, 4])
@@ -145,6 +157,9 @@ class EveryCall(unittest.TestCase):
         self.assertEqual(desk.polar(p=7, k=circle, x=[1, 0, 1]), [0, 1, 0, 6])
         self.assertEqual(desk.pole(p=7, k=circle, l=[1, 0, 6]), [0, 1, 0, 1])
         self.assertEqual(desk.crossed(p=7, k=circle, l=[1, 0, 0]), [0, 2, 0, 1, 1, 0, 1, 6])
+        self.assertEqual(desk.touched(p=7, k=circle, x=[1, 0, 1]), [0, 1, 1, 0, 6])
+        self.assertEqual(desk.shared(p=7, j=circle, k=[1, 0, 0, 0, 0, 0]), [0, 2, 0, 1, 1, 0, 1, 6])
+        self.assertEqual(desk.moved(p=7, m=shear, k=[1, 0, 0, 0, 0, 0]), [0, 1, 4, 0, 0, 0, 3])
 
 
 if __name__ == "__main__":

@@ -21,6 +21,13 @@ BUILTINS = set("""
     divmod Exception ValueError TypeError KeyError IndexError LookupError ZeroDivisionError ArithmeticError
     OverflowError RuntimeError NotImplementedError AttributeError StopIteration
     """.split())
+METHODS = set("""
+    append clear copy count endswith extend find get index insert isalnum isalpha isdigit islower isspace isupper items
+    join keys ljust lower lstrip partition pop remove replace reverse rfind rjust rpartition rsplit rstrip setdefault
+    split splitlines startswith strip update upper values zfill bit_length
+    """.split())
+WALKED = ("range", "zip", "enumerate", "reversed")
+WALKERS = ("list", "tuple", "dict", "sorted", "sum", "any", "all", "enumerate", "zip", "min", "max")
 WORDS = re.compile(r"\b(type|typing|typing_extensions|enum|Enum|IntEnum|StrEnum|Flag|IntFlag|Generic|Protocol|ABC"
                    r"|ABCMeta|namedtuple|NamedTuple|TypedDict|TYPE_CHECKING|abstractmethod)\b"
                    r"|dataclass|overload|contextmanager")
@@ -77,6 +84,54 @@ class Language(unittest.TestCase):
             self.assertFalse(word.startswith("_"), (name, word))
             if hasattr(builtins, word):
                 self.assertTrue(word in BUILTINS and not given, (name, word))
+
+    def test_top_of_a_file(self):
+        for name, tree in trees():
+            bound = []
+            for place, node in enumerate(tree.body):
+                if isinstance(node, ast.Assign):
+                    self.assertIsInstance(ast.literal_eval(node.value), (int, str, tuple), (name, node.lineno))
+                    bound.append(node.targets[0].id)
+                elif isinstance(node, ast.Expr):
+                    self.assertEqual((place, type(node.value)), (0, ast.Constant), name)
+                else:
+                    self.assertIsInstance(node, (ast.FunctionDef, ast.ClassDef, ast.ImportFrom), (name, node.lineno))
+                    bound += [node.name] if hasattr(node, "name") else [alias.name for alias in node.names]
+            self.assertEqual(len(bound), len(set(bound)), name)
+            inside = list(ast.walk(tree))
+            given = [node.id for node in inside if isinstance(node, ast.Name) and isinstance(node.ctx, ast.Store)]
+            given += [node.arg for node in inside if isinstance(node, ast.arg)]
+            for word in bound:
+                self.assertLessEqual(given.count(word), 1 if word.isupper() else 0, (name, word))
+
+    def test_assignments_have_one_target(self):
+        for name, node in nodes(ast.Assign):
+            self.assertEqual(len(node.targets), 1, (name, node.lineno))
+            self.assertIsInstance(node.targets[0], (ast.Name, ast.Subscript), (name, node.lineno))
+
+    def test_methods_are_plain_and_called(self):
+        called = [node.func for name, node in nodes(ast.Call)]
+        for name, node in nodes(ast.Attribute):
+            self.assertIn(node.attr, METHODS, (name, node.lineno))
+            self.assertIn(ast.dump(node), [ast.dump(func) for func in called], (name, node.lineno))
+
+    def test_texts_and_keywords(self):
+        for name, node in nodes(ast.Constant):
+            self.assertNotIn("%", str(node.value), (name, node.lineno))
+        for name, node in nodes(ast.keyword):
+            self.assertIn(node.arg, ("key", "reverse", "default", "start", "strict"), name)
+        for name, node in nodes(ast.Compare):
+            if any(isinstance(sign, (ast.Is, ast.IsNot)) for sign in node.ops):
+                self.assertTrue(all(isinstance(one, ast.Constant) for one in node.comparators), (name, node.lineno))
+
+    def test_walked_on_the_spot(self):
+        walked = [node.iter for name, node in nodes((ast.For, ast.comprehension))]
+        walked += [node.args[0] for name, node in nodes(ast.Call)
+                   if isinstance(node.func, ast.Name) and node.func.id in WALKERS and node.args]
+        places = {(node.lineno, node.col_offset) for node in walked}
+        for name, node in nodes(ast.Call):
+            if isinstance(node.func, ast.Name) and node.func.id in WALKED:
+                self.assertIn((node.lineno, node.col_offset), places, (name, node.lineno))
 
 
 if __name__ == "__main__":
