@@ -23,6 +23,12 @@ CALLS = {
 
 UNIT = [1, 0, 0, 0, 1, 0, 0, 0, 1]
 
+# Maps of every p: their determinants are 1 or -1. A conic of rank 3 for every p.
+TURN = [0, 0, 1, 1, 0, 0, 0, 1, 0]
+SHEAR = [1, 2, 0, 0, 1, 0, 0, 0, 1]
+MIXED = [1, 2, 3, 0, 1, 4, 5, 6, 0]
+CIRCLE = [1, 1, 1, 0, 0, 0]
+
 
 def forms(p):
     """Every point in its form, in order: of all triples those whose first number that isn't 0 is 1."""
@@ -121,6 +127,12 @@ def polar_of(p, k, x):
     a, b, c, d, e, f = k
     return normal(p, [2 * a * x[0] + f * x[1] + e * x[2], f * x[0] + 2 * b * x[1] + d * x[2],
                       e * x[0] + d * x[1] + 2 * c * x[2]])
+
+
+def is_proper(p, k):
+    """Whether the conic's rank is 3."""
+    a, b, c, d, e, f = k
+    return leibniz([2 * a, f, e, f, 2 * b, d, e, d, 2 * c]) % p != 0
 
 
 def aligned(p, *points):

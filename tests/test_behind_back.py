@@ -4,13 +4,8 @@ import itertools
 import unittest
 
 from planebook.desk import back, behind
-from samples import (LARGEST, PRIMES, UNIT, all_maps, draw, forms, normal, other_numbers, retold, singular, stream,
-                     taken, wrong_calls)
-
-# Maps of every p: their determinants are 1 or -1.
-TURN = [0, 0, 1, 1, 0, 0, 0, 1, 0]
-SHEAR = [1, 2, 0, 0, 1, 0, 0, 0, 1]
-MIXED = [1, 2, 3, 0, 1, 4, 5, 6, 0]
+from samples import (LARGEST, MIXED, PRIMES, SHEAR, TURN, UNIT, all_maps, draw, forms, normal, other_numbers, retold,
+                     singular, stream, taken, wrong_calls)
 
 
 def moves(p, m):

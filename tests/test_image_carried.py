@@ -3,13 +3,8 @@
 import unittest
 
 from planebook.desk import behind, carried, image, join
-from samples import (LARGEST, PRIMES, UNIT, all_maps, draw, forms, lies, normal, other_numbers, retold, stream, taken,
-                     wrong_calls)
-
-# Maps of every p: their determinants are 1 or -1.
-TURN = [0, 0, 1, 1, 0, 0, 0, 1, 0]
-SHEAR = [1, 2, 0, 0, 1, 0, 0, 0, 1]
-MIXED = [1, 2, 3, 0, 1, 4, 5, 6, 0]
+from samples import (LARGEST, MIXED, PRIMES, SHEAR, TURN, UNIT, all_maps, draw, forms, lies, normal, other_numbers,
+                     retold, stream, taken, wrong_calls)
 
 
 def tried(p, m, l):

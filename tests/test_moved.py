@@ -3,14 +3,8 @@
 import unittest
 
 from planebook.desk import back, behind, moved, points, rank
-from samples import (LARGEST, PRIMES, UNIT, all_conics, all_maps, conics_of, draw, forms, normal, other_numbers, retold,
-                     stream, taken, two_lines, undoing, value, wrong_calls)
-
-# Maps of every p: their determinants are 1 or -1.
-TURN = [0, 0, 1, 1, 0, 0, 0, 1, 0]
-SHEAR = [1, 2, 0, 0, 1, 0, 0, 0, 1]
-MIXED = [1, 2, 3, 0, 1, 4, 5, 6, 0]
-CIRCLE = [1, 1, 1, 0, 0, 0]
+from samples import (CIRCLE, LARGEST, MIXED, PRIMES, SHEAR, TURN, UNIT, all_conics, all_maps, conics_of, draw, forms,
+                     normal, other_numbers, retold, stream, taken, two_lines, undoing, value, wrong_calls)
 
 
 def put_in(p, m, k):

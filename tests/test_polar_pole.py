@@ -3,15 +3,8 @@
 import unittest
 
 from planebook.desk import crossed, polar, pole
-from samples import (LARGEST, PRIMES, all_conics, conics_of, draw, forms, leibniz, lies, normal, other_numbers,
-                     polar_of, retold, stream, two_lines, value, wrong_calls)
-
-CIRCLE = [1, 1, 1, 0, 0, 0]
-
-
-def is_proper(p, k):
-    a, b, c, d, e, f = k
-    return leibniz([2 * a, f, e, f, 2 * b, d, e, d, 2 * c]) % p != 0
+from samples import (CIRCLE, LARGEST, PRIMES, all_conics, conics_of, draw, forms, is_proper, lies, normal,
+                     other_numbers, polar_of, retold, stream, two_lines, value, wrong_calls)
 
 
 def proper(source, p):

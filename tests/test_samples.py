@@ -4,8 +4,9 @@ import itertools
 import unittest
 
 from samples import (LARGEST, PRIMES, SIZES, UNIT, WRONG_PRIMES, aligned, all_conics, all_maps, conics_of, draw, forms,
-                     highest, is_right, leibniz, lies, naughts, no_square, normal, other_numbers, polar_of, retold,
-                     singular, squares, stream, taken, times, two_lines, undoing, value, wrong_calls, wrong_lengths)
+                     highest, is_proper, is_right, leibniz, lies, naughts, no_square, normal, other_numbers, polar_of,
+                     retold, singular, squares, stream, taken, times, two_lines, undoing, value, wrong_calls,
+                     wrong_lengths)
 
 
 class Samples(unittest.TestCase):
@@ -103,8 +104,7 @@ class Samples(unittest.TestCase):
         for p in PRIMES:
             for rank, count, k in conics_of(p, source):
                 self.assertEqual(len([x for x in forms(p) if value(p, k, x) == 0]), count, (p, k))
-                a, b, c, d, e, f = k
-                self.assertEqual(leibniz([2 * a, f, e, f, 2 * b, d, e, d, 2 * c]) % p != 0, rank == 3, (p, k))
+                self.assertEqual(is_proper(p, k), rank == 3, (p, k))
 
     def test_polar_of(self):
         self.assertEqual(polar_of(7, [1, 1, 6, 0, 0, 0], [1, 0, 1]), [1, 0, 6])
